@@ -11,9 +11,9 @@ MIDDLE_LINE = 145
 CLEAR = 288
 
 
-def side_of(stone, hammer):
-    """The side a stone is of: the one that has the hammer delivers the odd ones."""
-    if stone[0] % 2 == 1:
+def side_of(number, hammer):
+    """The side that a stone of this number is of: the one that has the hammer delivers the odd ones."""
+    if number % 2 == 1:
         return hammer
     return 1 - hammer
 
@@ -55,7 +55,7 @@ def all_lie_clear(stones):
 
 def house_squares(stones, hammer, side):
     """How far one side's stones in the house are from the tee, as squares, nearest first."""
-    return sorted([tee_square(stone) for stone in stones if in_house(stone) and side_of(stone, hammer) == side])
+    return sorted([tee_square(stone) for stone in stones if in_house(stone) and side_of(stone[0], hammer) == side])
 
 
 def count_nearer(own, others):

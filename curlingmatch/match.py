@@ -1,12 +1,16 @@
 """The calls on a match, and what they answer."""
 
-from curlingmatch.ice import all_lie_clear, end_points, in_play, is_guard, touches_middle_line
+from curlingmatch.ice import all_lie_clear, end_points, in_house, in_play, is_guard, side_of, touches_middle_line
 
 BEGIN = 1
 DELIVER = 2
 TIME = 3
+GIVE = 4
+NOW = 5
+STONES = 6
+SCORES = 7
 # Of each call but deliver, which has a list: how many whole numbers stand behind its own.
-WHOLE_NUMBERS = {1: 3, 3: 2, 4: 1}
+WHOLE_NUMBERS = {1: 3, 3: 2, 4: 1, 5: 0, 6: 0, 7: 0, 8: 0}
 
 NOT_AS_TOLD = -1
 NO_MATCH = -2
@@ -43,6 +47,31 @@ class Match:
     def standing(self):
         """How it stands, as six numbers."""
         return [self.points(0), self.points(1), len(self.ended), self.hammer, self.delivered, self.winner]
+
+    def now(self):
+        """Whether it's over, how it stands, which side delivers next, and what time is left."""
+        over = 1 if self.is_over() else 0
+        return [over] + self.standing() + [side_of(self.delivered, self.hammer)] + self.seconds_left
+
+    def stones(self):
+        """How many stones lie in play, then six numbers of each."""
+        told = [len(self.lying)]
+        for stone in self.lying:
+            told.extend([stone[0], side_of(stone[0], self.hammer), stone[1], stone[2]])
+            told.extend([1 if in_house(stone) else 0, 1 if is_guard(stone) else 0])
+        return told
+
+    def scores(self):
+        """How many ends are over, then both sides' points of each."""
+        told = [len(self.ended)]
+        for end in self.ended:
+            told.extend(end)
+        return told
+
+    def shot(self):
+        """What the end would count as the stones lie, then what each side would have of it."""
+        points = end_points(self.lying, self.hammer)
+        return [points[0] + points[1], points[0], points[1]]
 
     def can_lie(self, stones):
         """Whether the stones can lie so behind the delivery that comes now."""
@@ -150,6 +179,18 @@ class Line:
         self.current.lose(side)
         return [0] + self.current.standing()
 
+    def look(self, call):
+        """Answer one of the calls that change nothing: now, stones, scores or shot."""
+        if self.current is None:
+            return [NO_MATCH]
+        if call == NOW:
+            return self.current.now()
+        if call == STONES:
+            return self.current.stones()
+        if call == SCORES:
+            return self.current.scores()
+        return self.current.shot()
+
 
 def is_guard_moved(before, after):
     """Whether a stone was a guard and was moved as the rule forbids; after is None if it's out."""
@@ -197,7 +238,9 @@ def answer_call(line, call, numbers):
         return line.deliver(numbers)
     if call == TIME:
         return line.time(numbers[0], numbers[1])
-    return line.give(numbers[0])
+    if call == GIVE:
+        return line.give(numbers[0])
+    return line.look(call)
 
 
 def answers(calls):

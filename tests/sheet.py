@@ -27,6 +27,22 @@ def give(side):
     return [4, side]
 
 
+def now():
+    return [5]
+
+
+def stones():
+    return [6]
+
+
+def scores():
+    return [7]
+
+
+def shot():
+    return [8]
+
+
 def ahead(count):
     """So many deliveries, each of which puts all stones out."""
     return [deliver()] * count
